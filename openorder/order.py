@@ -1,113 +1,12 @@
-"""One order: its things, what is told of them, and the rows that may be.
+"""One order: its things, what is told of them, and what each call answers."""
 
-A set of things is kept as one whole number, in which each thing has a bit of its own.
-What is told is kept as a dict: for each thing, lowest first, the set of all that lie below it.
-"""
+from openorder.asking import fairest_pair, questions_needed
+from openorder.rows import how_many_rows, number_of, row_at, rows_by_place, rows_with_ahead, rows_with_both
+from openorder.rows import sum_of_places
+from openorder.told import are_two, lies_below, neighbours, nothing_told, tell
 
 MOST_THINGS = 7
-
-
-def bit_of(thing):
-    """The set of this thing alone."""
-    return 1 << (thing - 1)
-
-
-def nothing_told(n):
-    """What lies below each of n things at the beginning: nothing."""
-    below = {}
-    for thing in range(1, n + 1):
-        below[thing] = 0
-    return below
-
-
-def are_two(below, x, y):
-    """Whether x and y are two different things."""
-    return x in below and y in below and x != y
-
-
-def lies_below(below, x, y):
-    """Whether x lies below y."""
-    return (below[y] & bit_of(x)) != 0
-
-
-def tell(below, x, y):
-    """What lies below each thing when x is told below y, too."""
-    gained = below[x] | bit_of(x)
-    told = {}
-    for thing in below:
-        if thing == y or lies_below(below, y, thing):
-            told[thing] = below[thing] | gained
-        else:
-            told[thing] = below[thing]
-    return told
-
-
-def may_follow(below, placed, thing):
-    """Whether thing may stand right behind the placed ones."""
-    return (placed & bit_of(thing)) == 0 and (placed & below[thing]) == below[thing]
-
-
-def followers(below, placed):
-    """The things that may stand right behind the placed ones, lowest in number first."""
-    return [thing for thing in below if may_follow(below, placed, thing)]
-
-
-def ways_behind(below):
-    """For each set of placed things, in how many ways the others may stand behind them.
-
-    A set that no row begins with gets a number too; no row leads there, so none is counted by it.
-    """
-    every = (1 << len(below)) - 1
-    ways = [0] * every + [1]
-    # A larger set is a larger number, so from the top down each sum finds its parts ready.
-    for placed in range(every - 1, -1, -1):
-        ways[placed] = sum([ways[placed | bit_of(thing)] for thing in followers(below, placed)])
-    return ways
-
-
-def how_many_rows(below):
-    """How many rows may be."""
-    return ways_behind(below)[0]
-
-
-def row_at(below, number):
-    """The row of this number, which is lower than how many rows may be."""
-    ways = ways_behind(below)
-    row = []
-    placed = 0
-    for place in range(len(below)):
-        for thing in followers(below, placed):
-            taken = placed | bit_of(thing)
-            if number < ways[taken]:
-                row.append(thing)
-                placed = taken
-                break
-            number = number - ways[taken]
-    return row
-
-
-def number_of(below, row):
-    """The row's number, or None where it is no row that may be."""
-    if len(row) != len(below):
-        return None
-    ways = ways_behind(below)
-    number = 0
-    placed = 0
-    for thing in row:
-        standing = followers(below, placed)
-        if thing not in standing:
-            return None
-        number = number + sum([ways[placed | bit_of(other)] for other in standing if other < thing])
-        placed = placed | bit_of(thing)
-    return number
-
-
-def rows_with_ahead(below, x, y):
-    """In how many rows that may be x stands ahead of y."""
-    if lies_below(below, y, x):
-        return 0
-    # These are just the rows that may be when x is told below y.
-    return how_many_rows(tell(below, x, y))
+MOST_THINGS_FOR_FEWEST = 4
 
 
 def common_part(a, b):
@@ -180,3 +79,56 @@ class Order:
         if not are_two(below, x, y):
             return [-1]
         return fraction(rows_with_ahead(below, x, y), how_many_rows(below))
+
+    def both(self, x, y, z):
+        below = self.below()
+        if not are_two(below, x, y) or not are_two(below, x, z):
+            return [-1]
+        return fraction(rows_with_both(below, x, y, z), how_many_rows(below))
+
+    def spread(self, x):
+        below = self.below()
+        if x not in below:
+            return [-1]
+        rows = rows_by_place(below, x)
+        return rows + fraction(sum_of_places(rows), sum(rows))
+
+    def fairest(self):
+        below = self.below()
+        pair = fairest_pair(below)
+        if pair is None:
+            return [-3]
+        return list(pair) + self.chance(pair[0], pair[1])
+
+    def fewest(self):
+        below = self.below()
+        if len(below) > MOST_THINGS_FOR_FEWEST:
+            return [-5]
+        return [questions_needed(below, {})]
+
+    def next_pairs(self):
+        pairs = neighbours(self.below())
+        given = [len(pairs)]
+        for pair in pairs:
+            given.extend(pair)
+        return given
+
+    def likely(self):
+        below = self.below()
+        rows = how_many_rows(below)
+        given = []
+        # All averages have the same number of rows below the line, so the sums stand in their order.
+        for places, thing in sorted([(sum_of_places(rows_by_place(below, thing)), thing) for thing in below]):
+            given.append(thing)
+            given.extend(fraction(places, rows))
+        return given
+
+    def is_below(self, x, y):
+        below = self.below()
+        if x not in below or y not in below:
+            return [-1]
+        if lies_below(below, x, y):
+            return [1]
+        if lies_below(below, y, x):
+            return [2]
+        return [0]

@@ -8,9 +8,16 @@ UNDO = 2
 MANY = 3
 NTH = 4
 RANK = 5
+CHANCE = 6
+BOTH = 7
+SPREAD = 8
+FAIREST = 9
+FEWEST = 10
+NEXT_PAIRS = 11
+LIKELY = 12
 
 # By the call's number: how many whole numbers it has, besides a row.
-LENGTHS = (1, 2, 0, 0, 1, 0, 2)
+LENGTHS = (1, 2, 0, 0, 1, 0, 2, 3, 1, 0, 0, 0, 0, 2)
 
 
 def end_of_call(calls, start):
@@ -37,8 +44,22 @@ def answer(order, number, numbers):
     if number == RANK:
         # The first of the numbers only tells how long the row is.
         return order.rank(numbers[1:])
-    # Only 6, chance, is left: LENGTHS has no place for a number above it.
-    return order.chance(numbers[0], numbers[1])
+    if number == CHANCE:
+        return order.chance(numbers[0], numbers[1])
+    if number == BOTH:
+        return order.both(numbers[0], numbers[1], numbers[2])
+    if number == SPREAD:
+        return order.spread(numbers[0])
+    if number == FAIREST:
+        return order.fairest()
+    if number == FEWEST:
+        return order.fewest()
+    if number == NEXT_PAIRS:
+        return order.next_pairs()
+    if number == LIKELY:
+        return order.likely()
+    # Only 13, is_below, is left: LENGTHS has no place for a number above it.
+    return order.is_below(numbers[0], numbers[1])
 
 
 def answers(calls):

@@ -4,58 +4,14 @@ import random
 import unittest
 from itertools import permutations
 
-from plain_order import PlainOrder, ask, ask_behind, plainly
-
-
-def pairs(n):
-    return [(x, y) for x in range(1, n + 1) for y in range(1, n + 1) if x != y]
-
-
-def setting_of(n, told):
-    return [("things", n)] + [("less", x, y) for x, y in told]
-
-
-def told_orders(n):
-    """Ways to tell pairs of n things, as many as make every order that n things may have."""
-    found = {}
-    waiting = [()]
-    while waiting:
-        told = waiting.pop()
-        order = PlainOrder()
-        order.n = n
-        order.told = list(told)
-        closed = tuple(pair for pair in pairs(n) if order.lies_below(*pair))
-        if closed in found:
-            continue
-        found[closed] = told
-        for x, y in pairs(n):
-            if not order.lies_below(x, y) and not order.lies_below(y, x):
-                waiting.append(told + ((x, y),))
-    return list(found.values())
-
-
-def drawn_orders(n, how_many, seed):
-    """Pairs told at random, each in turn where it is not refused, of n things."""
-    draw = random.Random(seed)
-    found = []
-    for turn in range(how_many):
-        order = PlainOrder()
-        order.n = n
-        wanted = draw.randrange(0, 12)
-        for pair in draw.sample(pairs(n), len(pairs(n))):
-            if len(order.told) < wanted and not order.lies_below(*pair) and not order.lies_below(*pair[::-1]):
-                order.told.append(pair)
-        found.append(tuple(order.told))
-    return found
+from plain_order import NUMBERS, PlainOrder, ask, ask_behind, drawn_orders, pairs, plainly, setting_of, told_orders
 
 
 class Held(unittest.TestCase):
     def check_order(self, n, told, some_rows=None):
         """Holds all that may be asked of one order; of its rows only some, where a number of these is told."""
         setting = setting_of(n, told)
-        order = PlainOrder()
-        order.n = n
-        order.told = list(told)
+        order = PlainOrder(n, told)
         rows = order.rows()
         self.assertEqual(ask(*setting, ("many",))[-1], [len(rows)])
         kept = sorted(set(range(0, len(rows), max(1, len(rows) // (some_rows or len(rows))))) | {len(rows) - 1})
@@ -64,6 +20,19 @@ class Held(unittest.TestCase):
         for name in ("chance", "less"):
             for pair in pairs(n):
                 self.assertEqual(ask(*setting, (name, *pair))[-1], plainly_behind(order, rows, name, pair), (told, pair))
+        self.check_questions(n, told)
+
+    def check_questions(self, n, told):
+        """Holds each call that only asks, with every thing, pair and three of them that it takes."""
+        order = PlainOrder(n, told)
+        things = range(1, n + 1)
+        questions = [("both", x, y, z) for x, y in pairs(n) for z in things if z != x]
+        questions += [("is_below", x, y) for x in things for y in things]
+        questions += [("spread", x) for x in things]
+        questions += [("fairest",), ("fewest",), ("next_pairs",), ("likely",)]
+        found = ask_behind(setting_of(n, told), questions)
+        for (name, *rest), answered in zip(questions, found, strict=True):
+            self.assertEqual(answered, getattr(order, name)(*rest), (n, told, name, rest))
 
     def test_every_order_of_up_to_four_things(self):
         for n, how_many in ((1, 1), (2, 3), (3, 19), (4, 219)):
@@ -75,9 +44,7 @@ class Held(unittest.TestCase):
     def test_every_list_of_four_things_is_a_row_or_refused(self):
         for told in ((), ((1, 2), (3, 4)), ((4, 2), (2, 1)), ((3, 1), (4, 1), (3, 2))):
             rows = [list(row) for row in permutations(range(1, 5))]
-            order = PlainOrder()
-            order.n = 4
-            order.told = list(told)
+            order = PlainOrder(4, told)
             self.assertEqual(ask_behind(setting_of(4, told), [("rank", row) for row in rows]),
                              [order.rank(row) for row in rows])
 
@@ -107,10 +74,17 @@ class Held(unittest.TestCase):
         for row in ((1, 2, 3, 4, 5, 6, 7), (7, 6, 5, 4, 3, 2, 1), (4, 7, 1, 3, 6, 2, 5)):
             self.check_order(7, tuple(zip(row, row[1:])))
 
+    def test_every_order_that_a_row_of_seven_things_grows_into(self):
+        row = (5, 2, 7, 1, 6, 3, 4)
+        steps = tuple(zip(row, row[1:]))
+        for told in range(7):
+            self.check_questions(7, steps[:told])
+
     def test_drawn_calls(self):
         draw = random.Random(2)
         for turn in range(400):
-            calls = [drawn_call(draw) for step in range(draw.randrange(1, 31))]
+            calls = [("things", draw.choice([3, 4, 4, 5, 5]))]
+            calls += [drawn_call(draw) for step in range(draw.randrange(0, 30))]
             self.assertEqual(ask(*calls), plainly(*calls), calls)
 
 
@@ -128,11 +102,17 @@ def plainly_behind(order, rows, name, pair):
 
 def drawn_call(draw):
     """A call on few things, so that the plain way is quick; now and then a wrong one."""
-    name = draw.choice(["things", "less", "less", "less", "less", "undo", "many", "nth", "rank", "chance", "chance"])
+    name = draw.choice(["less"] * 6 + sorted(NUMBERS))
+    if name == "things" and draw.random() < 0.7:
+        name = "many"
     if name == "things":
-        return (name, draw.choice([0, 3, 4, 5, 5, 5, 8]))
-    if name in ("less", "chance"):
+        return (name, draw.choice([0, 3, 4, 4, 5, 5, 8]))
+    if name in ("less", "chance", "is_below"):
         return (name, draw.randrange(0, 7), draw.randrange(0, 7))
+    if name == "both":
+        return (name, draw.randrange(0, 6), draw.randrange(1, 6), draw.randrange(1, 7))
+    if name == "spread":
+        return (name, draw.randrange(0, 7))
     if name == "nth":
         return (name, draw.choice([0, 1, 2, 5, 11, 23, 60, 119, 120]))
     if name == "rank":

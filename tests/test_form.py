@@ -27,6 +27,8 @@ UNUSED_NAMES = """register mro elements open input version_info with_traceback a
     methodcaller os quit setattr super type vars sys chr print""".split()
 UNUSED_WORDS = """type typing typing_extensions enum Enum IntEnum StrEnum Flag IntFlag Generic Protocol ABC ABCMeta
     namedtuple NamedTuple TypedDict TYPE_CHECKING abstractmethod""".split()
+KEYWORDS = {"sorted": ("key", "reverse"), "min": ("key", "default"), "max": ("key", "default"), "sum": ("start",),
+            "enumerate": ("start",), "zip": ("strict",)}
 TWO_UNDERSCORES = ("__init__", "__eq__", "__repr__", "__str__", "__len__")
 
 
@@ -36,6 +38,12 @@ def files():
 
 def walked(path):
     return list(ast.walk(ast.parse(path.read_text(encoding="utf-8"))))
+
+
+def drawn_from(path):
+    """Each name that the file imports, behind the name of the file that it is imported from."""
+    return [(node.module.split(".")[1] + ".py", alias.name) for node in walked(path) if isinstance(node, ast.ImportFrom)
+            for alias in node.names]
 
 
 def bound_names(path):
@@ -53,7 +61,8 @@ def bound_names(path):
 
 class Form(unittest.TestCase):
     def test_files(self):
-        self.assertEqual([path.name for path in files()], ["__init__.py", "order.py", "questions.py"])
+        self.assertEqual([path.name for path in files()], ["__init__.py", "asking.py", "order.py", "questions.py", "rows.py",
+                                                          "told.py"])
 
     def test_signs_and_size(self):
         for path in files():
@@ -100,6 +109,44 @@ class Form(unittest.TestCase):
                     self.assertTrue(node.module.startswith("openorder."), node.module)
                     self.assertIn(PACKAGE / (node.module.split(".")[1] + ".py"), files())
                     self.assertNotIn("*", [alias.name for alias in node.names])
+
+    def test_imports_come_from_the_file_that_defines_the_name(self):
+        for path in files():
+            for module, name in drawn_from(path):
+                body = ast.parse((PACKAGE / module).read_text(encoding="utf-8")).body
+                self.assertIn(name, [node.name for node in body if isinstance(node, (ast.FunctionDef, ast.ClassDef))])
+
+    def test_every_import_is_used(self):
+        for path in files():
+            used = [node.id for node in walked(path) if isinstance(node, ast.Name)]
+            for module, name in drawn_from(path):
+                self.assertIn(name, used, path)
+
+    def test_no_two_files_draw_from_one_another(self):
+        waiting = {path.name: {module for module, name in drawn_from(path)} for path in files()}
+        while waiting:
+            ready = [name for name, modules in waiting.items() if not modules & set(waiting)]
+            self.assertTrue(ready, waiting)
+            waiting = {name: modules for name, modules in waiting.items() if name not in ready}
+
+    def test_no_local_is_called_like_a_class_or_an_import_of_its_file(self):
+        for path in files():
+            taken = [name for module, name in drawn_from(path)]
+            taken += [node.name for node in walked(path) if isinstance(node, ast.ClassDef)]
+            local = [node.id for node in walked(path) if isinstance(node, ast.Name) and isinstance(node.ctx, ast.Store)]
+            local += [node.arg for node in walked(path) if isinstance(node, ast.arg)]
+            self.assertEqual(set(taken) & set(local), set(), path)
+
+    def test_no_annotations_and_no_keywords_but_those_of_sorted_and_its_like(self):
+        for path in files():
+            for node in walked(path):
+                if isinstance(node, ast.arg):
+                    self.assertIsNone(node.annotation)
+                if isinstance(node, ast.FunctionDef):
+                    self.assertIsNone(node.returns)
+                if isinstance(node, ast.Call) and node.keywords:
+                    self.assertIn(node.func.id, KEYWORDS)
+                    self.assertLessEqual({keyword.arg for keyword in node.keywords}, set(KEYWORDS[node.func.id]))
 
     def test_names(self):
         python_names = set(dir(builtins))

@@ -1,6 +1,7 @@
 """What is refused, with which number, and that all is as it was then."""
 
 import unittest
+from functools import lru_cache
 
 from plain_order import LARGEST, ask, ask_behind, plainly
 
@@ -19,17 +20,22 @@ def how_many_things(setting):
 def probe(setting):
     """Calls whose answers tell the things, what is told, in which order it was told, and the rows."""
     rows = ask(*setting, ("many",))[-1][0]
-    calls = [("many",), ("nth", 0), ("nth", rows - 1), ("nth", rows)]
-    calls += [("chance", x, y) for x, y in ((1, 2), (2, 5), (7, 1))]
+    calls = [("many",), ("nth", 0), ("nth", rows - 1), ("nth", rows), ("likely",), ("next_pairs",)]
     for step in range(7):
-        calls += [("undo",), ("many",)]
+        calls += [("undo",), ("next_pairs",)]
     return calls
+
+
+@lru_cache(maxsize=None)
+def probed(setting):
+    """The calls of probe, and what is answered when nothing is asked between setting and them."""
+    asked = probe(setting)
+    return asked, ask(*setting, *asked)
 
 
 class Refusals(unittest.TestCase):
     def check_refused(self, setting, call, refusal):
-        asked = probe(setting)
-        as_it_was = ask(*setting, *asked)
+        asked, as_it_was = probed(tuple(setting))
         found = ask(*setting, call, *asked)
         with self.subTest(setting=setting, call=call):
             self.assertEqual(found[len(setting)], [refusal])
@@ -125,6 +131,54 @@ class Refusals(unittest.TestCase):
     def test_rank_with_one_thing(self):
         for row in ([], [0], [2], [1, 1], [LARGEST], [1] * 40):
             self.check_refused(ONE_THING, ("rank", row), -3)
+
+    def test_both_with_no_such_thing(self):
+        for setting in SETTINGS:
+            n = how_many_things(setting)
+            for wrong in (0, n + 1, LARGEST):
+                for call in (("both", wrong, 1, 1), ("both", 1, wrong, n), ("both", n, 1, wrong), ("both", wrong, 1, n),
+                             ("both", 1, wrong, wrong), ("both", wrong, wrong, 1), ("both", wrong, wrong, wrong)):
+                    self.check_refused(setting, call, -1)
+
+    def test_both_with_the_same_thing_on_both_sides(self):
+        for setting in SETTINGS:
+            n = how_many_things(setting)
+            for x in range(1, n + 1):
+                for other in (1, n, x):
+                    self.check_refused(setting, ("both", x, x, other), -1)
+                    self.check_refused(setting, ("both", x, other, x), -1)
+
+    def test_spread_of_no_thing(self):
+        for setting in SETTINGS:
+            for wrong in (0, how_many_things(setting) + 1, 8, 33, 256, LARGEST):
+                self.check_refused(setting, ("spread", wrong), -1)
+
+    def test_is_below_with_no_such_thing(self):
+        for setting in SETTINGS:
+            n = how_many_things(setting)
+            for wrong in (0, n + 1, 33, LARGEST):
+                for call in (("is_below", wrong, 1), ("is_below", n, wrong), ("is_below", wrong, wrong)):
+                    self.check_refused(setting, call, -1)
+
+    def test_fairest_with_nothing_left_to_ask(self):
+        for setting in (ONE_THING, ALL_TOLD, ALL_TOLD + [("things", 1)]):
+            self.check_refused(setting, ("fairest",), -3)
+        for n in range(2, 8):
+            row = [("things", n)] + [("less", thing, thing + 1) for thing in range(1, n)]
+            self.check_refused(row, ("fairest",), -3)
+            self.assertEqual(ask(*row, ("undo",), ("fairest",))[-1][:2],
+                             plainly(*row, ("undo",), ("fairest",))[-1][:2])
+
+    def test_fairest_of_one_row_that_was_told_by_more_pairs_than_it_takes(self):
+        self.check_refused([("things", 3), ("less", 1, 3), ("less", 2, 3), ("less", 1, 2)], ("fairest",), -3)
+
+    def test_fewest_of_more_than_four_things(self):
+        for n in (5, 6, 7):
+            row = [("things", n)] + [("less", thing, thing + 1) for thing in range(1, n)]
+            for told in (0, 1, 3, n - 2, n - 1):
+                self.check_refused(row[:told + 1], ("fewest",), -5)
+        for setting in (SOME_TOLD, ALL_TOLD, TAKEN_BACK):
+            self.check_refused(setting, ("fewest",), -5)
 
     def test_a_refused_list_is_passed_over_whole(self):
         # The numbers of a refused row would be calls if they were read as such.
